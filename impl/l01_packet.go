@@ -157,6 +157,11 @@ func unpack(b []byte) Packet {
 	}
 }
 
+func clonePacket(p Packet) Packet {
+	p.Body = append([]byte(nil), p.Body...)
+	return p
+}
+
 func Opens(p Packet) bool {
 	flags := flagSet(p.Flags)
 	return PacketOk(p) && flags.hasAny(synFlag) && !flags.hasAny(ackFlag)

@@ -91,6 +91,11 @@ func PacketOk(p Packet) bool {
 	return FlowOk(p.Flow) && flagSet(p.Flags).ok() && isWord(p.Seq) && len(p.Body) <= MaxBody
 }
 
+// isNoPacket tells the zero value, whose list may be empty or nil.
+func isNoPacket(p Packet) bool {
+	return p.Flow == Flow{} && p.Flags == 0 && p.Seq == 0 && len(p.Body) == 0
+}
+
 func CheckSum(b []byte) int {
 	if len(b) > maxSummed {
 		return -1
